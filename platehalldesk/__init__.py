@@ -1,0 +1,1 @@
+"""Platehall: sheets of dots and screens."""

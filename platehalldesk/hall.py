@@ -1,0 +1,163 @@
+"""The calls of Platehall.
+
+A sheet that was found without a fault is gone on with as its width w and its rows:
+of each row one whole number, whose bit x is dot x.
+"""
+
+MOST_BYTES = 4096
+MOST_WIDE = 24
+MOST_HIGH = 24
+HAS = 35
+HAS_NOT = 46
+LINE_END = 10
+
+
+def answer(number, told, numbers):
+    return [number, len(told)] + told + [len(numbers)] + numbers
+
+
+def answer_bytes(told):
+    return answer(len(told), told, [])
+
+
+def refusal(number):
+    return answer(number, [], [])
+
+
+def row_size(w):
+    return (w + 7) // 8
+
+
+def full_row(w):
+    return (1 << w) - 1
+
+
+def sheet_fault(a):
+    """The first fault's kind and place, or an empty list if there's none."""
+    if len(a) < 2:
+        return [1, len(a)]
+    w = a[0] + 256 * a[1]
+    if w == 0 or w > MOST_WIDE:
+        return [2, 0]
+    if len(a) < 4:
+        return [1, len(a)]
+    h = a[2] + 256 * a[3]
+    if h == 0 or h > MOST_HIGH:
+        return [2, 2]
+    return rows_fault(a, w, h)
+
+
+def rows_fault(a, w, h):
+    size = row_size(w)
+    last_byte_full = full_row(w - 8 * (size - 1))
+    end = 4
+    for y in range(h):
+        end = end + size
+        # A row is only looked at once it's whole: before that its end is what is met.
+        if len(a) < end:
+            return [1, len(a)]
+        if a[end - 1] > last_byte_full:
+            return [3, end - 1]
+    if len(a) > end:
+        return [4, end]
+    return []
+
+
+def drawing_fault(t):
+    """The first fault's kind and place, or an empty list if there's none."""
+    # Until the first line has ended, its width is only known not to be above this.
+    w = MOST_WIDE
+    lines = 0
+    dots = 0
+    for place, byte in enumerate(t):
+        if byte == LINE_END:
+            if dots == 0 or (lines > 0 and dots < w):
+                return [2, place]
+            w = dots
+            lines = lines + 1
+            dots = 0
+        elif byte != HAS and byte != HAS_NOT:
+            return [1, place]
+        elif dots == w:
+            return [3, place]
+        elif lines == MOST_HIGH:
+            return [5, place]
+        else:
+            dots = dots + 1
+    if lines == 0 or dots > 0:
+        return [4, len(t)]
+    return []
+
+
+def refuse_sheets(sheets):
+    """The refusal of bytes that are handed over, or an empty list if all are sheets."""
+    # The length of all comes before a fault of any.
+    for a in sheets:
+        if len(a) > MOST_BYTES:
+            return refusal(-2)
+    for number, a in enumerate(sheets):
+        fault = sheet_fault(a)
+        if fault:
+            return answer(-6, [], [fault[0] + 16 * number, fault[1]])
+    return []
+
+
+def sheet_rows(a):
+    size = row_size(a[0])
+    rows = []
+    for start in range(4, len(a), size):
+        row = 0
+        for i in range(size):
+            row = row | (a[start + i] << (8 * i))
+        rows.append(row)
+    return rows
+
+
+def sheet_bytes(w, rows):
+    told = [w, 0, len(rows), 0]
+    for row in rows:
+        for i in range(row_size(w)):
+            told.append((row >> (8 * i)) & 255)
+    return told
+
+
+def row_dots(w, row):
+    return [(row >> x) & 1 for x in range(w)]
+
+
+def drawing_rows(t):
+    w = t.index(LINE_END)
+    rows = []
+    for start in range(0, len(t), w + 1):
+        rows.append(sum([1 << x for x in range(w) if t[start + x] == HAS]))
+    return rows
+
+
+def judge(a):
+    refused = refuse_sheets([a])
+    if refused:
+        return refused
+    w = a[0]
+    rows = sheet_rows(a)
+    dots = sum([sum(row_dots(w, row)) for row in rows])
+    return answer(0, [], [w, len(rows), dots])
+
+
+def draw(a):
+    refused = refuse_sheets([a])
+    if refused:
+        return refused
+    told = []
+    for row in sheet_rows(a):
+        told.extend([HAS if dot else HAS_NOT for dot in row_dots(a[0], row)])
+        told.append(LINE_END)
+    return answer_bytes(told)
+
+
+def read(t):
+    if len(t) > MOST_BYTES:
+        return refusal(-2)
+    fault = drawing_fault(t)
+    if fault:
+        return answer(-6, [], fault)
+    return answer_bytes(sheet_bytes(t.index(LINE_END), drawing_rows(t)))

@@ -1,0 +1,102 @@
+"""What the tests share: answers, sheets and drawings, written straight from the document's words.
+
+Here a sheet is (w, h, dots), dots a set of (x, y); nothing of this is taken from the package.
+"""
+
+
+class Untouched(list):
+    """A list that can be read but not changed, not for a while either."""
+
+    def refuse(self, *given, **named):
+        raise AssertionError("what was handed in was changed")
+
+    append = extend = insert = pop = remove = clear = sort = reverse = refuse
+    __setitem__ = __delitem__ = __iadd__ = __imul__ = refuse
+
+
+def calls(function, *given):
+    """The answer of a call that must leave what is handed in as it was."""
+    before = [list(g) if isinstance(g, list) else g for g in given]
+    locked = [Untouched(g) if isinstance(g, list) else g for g in given]
+    answer = function(*locked)
+    assert [list(g) if isinstance(g, list) else g for g in locked] == before
+    plain = [list(g) if isinstance(g, list) else g for g in given]
+    again = function(*plain)
+    assert plain == before
+    assert type(again) is list and again == answer
+    assert all(type(number) is int for number in again)
+    # What a call gives back is the caller's own: changing it must not show anywhere.
+    again.append(7)
+    assert plain == before and function(*plain) == answer
+    return answer
+
+
+def bytes_answer(told):
+    return [len(told), len(told)] + list(told) + [0]
+
+
+def refusal(number):
+    return [number, 0, 0]
+
+
+def fault(kind, place):
+    return [-6, 0, 2, kind, place]
+
+
+def text(words):
+    return list(words.encode("ascii"))
+
+
+def picture(sheet):
+    w, h, dots = sheet
+    return "".join("".join("#" if (x, y) in dots else "." for x in range(w)) + "\n" for y in range(h))
+
+
+def from_picture(*lines):
+    dots = {(x, y) for y, line in enumerate(lines) for x, sign in enumerate(line) if sign == "#"}
+    return (len(lines[0]), len(lines), dots)
+
+
+def encode(sheet):
+    w, h, dots = sheet
+    size = (w + 7) // 8
+    told = [w % 256, w // 256, h % 256, h // 256]
+    for y in range(h):
+        row = [0] * size
+        for x in range(w):
+            if (x, y) in dots:
+                row[x // 8] += [1, 2, 4, 8, 16, 32, 64, 128][x % 8]
+        told += row
+    return told
+
+
+def places(w, h):
+    return [(x, y) for y in range(h) for x in range(w)]
+
+
+def every_sheet(w, h):
+    all_places = places(w, h)
+    for number in range(1 << len(all_places)):
+        yield (w, h, {place for i, place in enumerate(all_places) if number >> i & 1})
+
+
+def mixed_sheet(w, h, seed, of_16=6):
+    """A sheet with about of_16 in 16 of its dots, the same each time."""
+    state = seed * 7919 + w * 31 + h
+    dots = set()
+    for place in places(w, h):
+        state = (state * 6364136223846793005 + 1442695040888963407) % (1 << 64)
+        if (state >> 40) % 16 < of_16:
+            dots.add(place)
+    return (w, h, dots)
+
+
+def many_sheets():
+    """Ordinary sheets and those at the edges, of many widths and heights."""
+    sizes = [(1, 1), (1, 24), (24, 1), (24, 24), (3, 5), (12, 10)]
+    sizes += [(w, 3) for w in (2, 7, 8, 9, 15, 16, 17, 23)] + [(5, h) for h in (2, 23)]
+    for w, h in sizes:
+        yield (w, h, set())
+        yield (w, h, set(places(w, h)))
+        for seed in range(3):
+            yield mixed_sheet(w, h, seed)

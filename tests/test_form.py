@@ -1,0 +1,116 @@
+"""The form of the package: the interface's names and arguments, and rules of the language that can be read off."""
+
+import ast
+import builtins
+import inspect
+import os
+import re
+import subprocess
+import sys
+import unittest
+
+from platehalldesk import hall
+
+ROOT = os.path.dirname(os.path.dirname(os.path.abspath(__file__)))
+PACKAGE = os.path.join(ROOT, "platehalldesk")
+
+INTERFACE = {
+    "judge": ["a"],
+    "draw": ["a"],
+    "read": ["t"],
+}
+
+BUILT_IN = """len range enumerate zip min max sum abs sorted reversed int str bool list tuple dict set frozenset
+isinstance ord repr any all divmod Exception ValueError TypeError KeyError IndexError LookupError ZeroDivisionError
+ArithmeticError OverflowError RuntimeError NotImplementedError AttributeError StopIteration""".split()
+
+METHODS = """append clear copy count endswith extend find get index insert isalnum isalpha isdigit islower isspace
+isupper items join keys ljust lower lstrip partition pop remove replace reverse rfind rjust rpartition rsplit rstrip
+setdefault split splitlines startswith strip update upper values zfill bit_length""".split()
+
+WORDS = """type typing typing_extensions enum Enum IntEnum StrEnum Flag IntFlag Generic Protocol ABC ABCMeta
+namedtuple NamedTuple TypedDict TYPE_CHECKING abstractmethod""".split()
+
+NODES_OUT = (ast.Import, ast.ImportFrom, ast.With, ast.Match, ast.Delete, ast.Global, ast.Nonlocal, ast.Assert,
+             ast.Yield, ast.YieldFrom, ast.AsyncFunctionDef, ast.Await, ast.Div, ast.MatMult, ast.SetComp,
+             ast.DictComp, ast.GeneratorExp, ast.NamedExpr, ast.Starred, ast.AnnAssign)
+
+
+def package_files():
+    names = sorted(name for name in os.listdir(PACKAGE) if name != "__pycache__")
+    return [os.path.join(PACKAGE, name) for name in names]
+
+
+def sources():
+    for path in package_files():
+        with open(path, encoding="utf-8", newline="") as source:
+            yield os.path.basename(path), source.read()
+
+
+def nodes():
+    for name, source in sources():
+        for node in ast.walk(ast.parse(source)):
+            yield name, node
+
+
+class Interface(unittest.TestCase):
+    def test_names_and_arguments(self):
+        for name, arguments in INTERFACE.items():
+            self.assertEqual(list(inspect.signature(getattr(hall, name)).parameters), arguments)
+
+    def test_nothing_is_printed_by_drawing_it_in(self):
+        told = subprocess.run([sys.executable, "-c", "import platehalldesk.hall"], cwd=ROOT, capture_output=True)
+        self.assertEqual((told.returncode, told.stdout, told.stderr), (0, b"", b""))
+
+
+class Language(unittest.TestCase):
+    def test_only_python_files(self):
+        for path in package_files():
+            self.assertRegex(os.path.basename(path), r"^[a-z0-9_]+\.py$")
+
+    def test_sizes_and_signs(self):
+        for name, source in sources():
+            rows = source.split("\n")
+            self.assertLessEqual(len(rows), 401, name)
+            self.assertLessEqual(max(len(row) for row in rows), 120, name)
+            self.assertRegex(source, r"\A[ -~\n]*\Z", name)
+
+    def test_words_that_stand_nowhere(self):
+        for name, source in sources():
+            self.assertEqual([w for w in re.findall(r"\w+", source) if w in WORDS], [], name)
+
+    def test_functions_are_plain_and_short(self):
+        for name, node in nodes():
+            if isinstance(node, ast.FunctionDef):
+                self.assertLessEqual(node.end_lineno - node.lineno + 1, 40, node.name)
+                self.assertEqual((node.decorator_list, node.args.vararg, node.args.kwarg), ([], None, None))
+
+    def test_statements_and_expressions(self):
+        for name, node in nodes():
+            self.assertNotIsInstance(node, NODES_OUT, f"{name}: {getattr(node, 'lineno', 0)}")
+            if isinstance(node, (ast.For, ast.While)):
+                self.assertEqual(node.orelse, [])
+            if isinstance(node, ast.Assign):
+                self.assertEqual(len(node.targets), 1)
+            if isinstance(node, ast.ListComp):
+                self.assertEqual(len(node.generators), 1)
+                self.assertLessEqual(len(node.generators[0].ifs), 1)
+            if isinstance(node, ast.Constant):
+                self.assertIn(type(node.value), (int, str, bool, type(None)))
+
+    def test_names(self):
+        for name, node in nodes():
+            if isinstance(node, ast.Name):
+                self.assertFalse(node.id.startswith("_"), node.id)
+                if hasattr(builtins, node.id):
+                    self.assertIn(node.id, BUILT_IN)
+                    self.assertIsInstance(node.ctx, ast.Load)
+            if isinstance(node, (ast.arg, ast.FunctionDef)):
+                own = node.arg if isinstance(node, ast.arg) else node.name
+                self.assertFalse(hasattr(builtins, own), own)
+            if isinstance(node, ast.Attribute):
+                self.assertIn(node.attr, METHODS)
+
+
+if __name__ == "__main__":
+    unittest.main()
