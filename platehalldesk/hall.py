@@ -7,6 +7,7 @@ of each row one whole number, whose bit x is dot x.
 MOST_BYTES = 4096
 MOST_WIDE = 24
 MOST_HIGH = 24
+MOST_NEAR = 24
 HAS = 35
 HAS_NOT = 46
 LINE_END = 10
@@ -133,6 +134,52 @@ def drawing_rows(t):
     return rows
 
 
+def join_rows(how, p, q):
+    if how == 0:
+        return p | q
+    if how == 1:
+        return p & q
+    if how == 2:
+        return p & ~q
+    return p ^ q
+
+
+def spread_row(w, row, d):
+    for step in range(d):
+        row = row | (row << 1) | (row >> 1)
+    return row & full_row(w)
+
+
+def spread_rows(w, rows, d):
+    # A round is a square, so it may be gone through to the sides first, then up and down.
+    wide = [spread_row(w, row, d) for row in rows]
+    told = []
+    for y in range(len(rows)):
+        row = 0
+        for near in wide[max(0, y - d):y + d + 1]:
+            row = row | near
+        told.append(row)
+    return told
+
+
+def other_rows(w, rows):
+    return [full_row(w) ^ row for row in rows]
+
+
+def inner_rows(w, h, d):
+    """The dots whose rounds lie on the sheet wholly."""
+    inner = full_row(max(0, w - 2 * d)) << d
+    return [inner if d <= y and y + d < h else 0 for y in range(h)]
+
+
+def shrink_rows(w, rows, d, off):
+    # What's shrunk has just the dots that none of those it hasn't is near to.
+    told = other_rows(w, spread_rows(w, other_rows(w, rows), d))
+    if off == 1:
+        return told
+    return [p & q for p, q in zip(told, inner_rows(w, len(rows), d))]
+
+
 def judge(a):
     refused = refuse_sheets([a])
     if refused:
@@ -161,3 +208,33 @@ def read(t):
     if fault:
         return answer(-6, [], fault)
     return answer_bytes(sheet_bytes(t.index(LINE_END), drawing_rows(t)))
+
+
+def join(how, a, b):
+    refused = refuse_sheets([a, b])
+    if refused:
+        return refused
+    if a[0] != b[0] or a[2] != b[2]:
+        return refusal(-5)
+    if how > 3:
+        return refusal(-1)
+    rows = [join_rows(how, p, q) for p, q in zip(sheet_rows(a), sheet_rows(b))]
+    return answer_bytes(sheet_bytes(a[0], rows))
+
+
+def spread(d, a):
+    refused = refuse_sheets([a])
+    if refused:
+        return refused
+    if d > MOST_NEAR:
+        return refusal(-1)
+    return answer_bytes(sheet_bytes(a[0], spread_rows(a[0], sheet_rows(a), d)))
+
+
+def shrink(d, off, a):
+    refused = refuse_sheets([a])
+    if refused:
+        return refused
+    if d > MOST_NEAR or off > 1:
+        return refusal(-1)
+    return answer_bytes(sheet_bytes(a[0], shrink_rows(a[0], sheet_rows(a), d, off)))

@@ -18,6 +18,9 @@ INTERFACE = {
     "judge": ["a"],
     "draw": ["a"],
     "read": ["t"],
+    "join": ["how", "a", "b"],
+    "spread": ["d", "a"],
+    "shrink": ["d", "off", "a"],
 }
 
 BUILT_IN = """len range enumerate zip min max sum abs sorted reversed int str bool list tuple dict set frozenset
