@@ -8,6 +8,7 @@ MOST_BYTES = 4096
 MOST_WIDE = 24
 MOST_HIGH = 24
 MOST_NEAR = 24
+MOST_SHIFT = 24
 HAS = 35
 HAS_NOT = 46
 LINE_END = 10
@@ -180,6 +181,24 @@ def shrink_rows(w, rows, d, off):
     return [p & q for p, q in zip(told, inner_rows(w, len(rows), d))]
 
 
+def column_as_row(x, rows):
+    return sum([((row >> x) & 1) << y for y, row in enumerate(rows)])
+
+
+def mirrored_row(w, row):
+    return sum([dot << (w - 1 - x) for x, dot in enumerate(row_dots(w, row))])
+
+
+def shifted_rows(w, rows, dx, dy):
+    told = []
+    for y in range(len(rows)):
+        came_from = y - dy
+        row = rows[came_from] if 0 <= came_from < len(rows) else 0
+        moved = row << dx if dx >= 0 else row >> -dx
+        told.append(moved & full_row(w))
+    return told
+
+
 def judge(a):
     refused = refuse_sheets([a])
     if refused:
@@ -238,3 +257,40 @@ def shrink(d, off, a):
     if d > MOST_NEAR or off > 1:
         return refusal(-1)
     return answer_bytes(sheet_bytes(a[0], shrink_rows(a[0], sheet_rows(a), d, off)))
+
+
+def turn(how, a):
+    refused = refuse_sheets([a])
+    if refused:
+        return refused
+    if how > 7:
+        return refusal(-1)
+    w = a[0]
+    rows = sheet_rows(a)
+    if how & 1:
+        rows = [column_as_row(x, rows) for x in range(w)]
+        w = a[2]
+    if how & 2:
+        rows = [mirrored_row(w, row) for row in rows]
+    if how & 4:
+        rows = list(reversed(rows))
+    return answer_bytes(sheet_bytes(w, rows))
+
+
+def shift(dx, dy, a):
+    refused = refuse_sheets([a])
+    if refused:
+        return refused
+    if abs(dx) > MOST_SHIFT or abs(dy) > MOST_SHIFT:
+        return refusal(-1)
+    return answer_bytes(sheet_bytes(a[0], shifted_rows(a[0], sheet_rows(a), dx, dy)))
+
+
+def cut(x, y, w, h, a):
+    refused = refuse_sheets([a])
+    if refused:
+        return refused
+    if w == 0 or h == 0 or x + w > a[0] or y + h > a[2]:
+        return refusal(-1)
+    rows = [(row >> x) & full_row(w) for row in sheet_rows(a)[y:y + h]]
+    return answer_bytes(sheet_bytes(w, rows))

@@ -3,6 +3,13 @@
 Here a sheet is (w, h, dots), dots a set of (x, y); nothing of this is taken from the package.
 """
 
+# The greatest number that may be handed in; of those that may lie below 0, the least and the greatest.
+GREATEST = 18446744073709551615
+LEAST_SIGNED = -9223372036854775808
+GREATEST_SIGNED = 9223372036854775807
+
+GOOD = [3, 0, 2, 0, 5, 2]
+
 
 class Untouched(list):
     """A list that can be read but not changed, not for a while either."""
@@ -41,6 +48,25 @@ def refusal(number):
 
 def fault(kind, place):
     return [-6, 0, 2, kind, place]
+
+
+def refused_bytes():
+    """Bytes that are no sheet's, of every kind, or too many; and what's told of them."""
+    return [
+        ([], fault(1, 0)),
+        ([3, 0, 2, 0, 5], fault(1, 5)),
+        ([0, 0], fault(2, 0)),
+        ([3, 0, 25, 0], fault(2, 2)),
+        ([3, 0, 2, 0, 8, 2], fault(3, 4)),
+        (GOOD + [0], fault(4, 6)),
+        (GOOD + [0] * 4090, fault(4, 6)),
+        (GOOD + [0] * 4091, refusal(-2)),
+        ([255] * 5000, refusal(-2)),
+    ]
+
+
+def told_bytes(answer):
+    return answer[2:-1]
 
 
 def text(words):

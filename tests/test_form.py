@@ -21,6 +21,9 @@ INTERFACE = {
     "join": ["how", "a", "b"],
     "spread": ["d", "a"],
     "shrink": ["d", "off", "a"],
+    "turn": ["how", "a"],
+    "shift": ["dx", "dy", "a"],
+    "cut": ["x", "y", "w", "h", "a"],
 }
 
 BUILT_IN = """len range enumerate zip min max sum abs sorted reversed int str bool list tuple dict set frozenset

@@ -3,12 +3,9 @@
 import unittest
 
 from platehalldesk.hall import join
-from tests.helper import (bytes_answer, calls, encode, every_sheet, fault, from_picture, many_sheets, mixed_sheet,
-                          refusal)
+from tests.helper import (GOOD, GREATEST, bytes_answer, calls, encode, every_sheet, fault, from_picture,
+                          many_sheets, mixed_sheet, refusal)
 
-GREATEST = 18446744073709551615
-
-GOOD = [3, 0, 2, 0, 5, 2]
 OTHER_WIDTH = [4, 0, 2, 0, 5, 2]
 OTHER_HEIGHT = [3, 0, 1, 0, 5]
 BAD_BIT = [3, 0, 2, 0, 8, 2]

@@ -3,14 +3,11 @@
 import unittest
 
 from platehalldesk.hall import join, shrink, spread
-from tests.helper import (bytes_answer, calls, encode, every_sheet, fault, from_picture, many_sheets, mixed_sheet,
-                          places, refusal)
+from tests.helper import (GOOD, GREATEST, bytes_answer, calls, encode, every_sheet, from_picture, many_sheets,
+                          mixed_sheet, places, refused_bytes, told_bytes)
 
-GREATEST = 18446744073709551615
 TOO_FAR = (25, 26, 48, 255, 256, 1 << 32, 1 << 63, GREATEST - 1, GREATEST)
 TOO_MUCH_OFF = (2, 3, 255, 256, 1 << 32, 1 << 63, GREATEST - 1, GREATEST)
-
-GOOD = [3, 0, 2, 0, 5, 2]
 
 
 def spread_by_the_words(d, sheet):
@@ -33,10 +30,6 @@ def shrunk_by_the_words(d, off, sheet):
 def lacking(sheet):
     w, h, dots = sheet
     return (w, h, set(places(w, h)) - dots)
-
-
-def told_bytes(answer):
-    return answer[2:-1]
 
 
 def within(a, b):
@@ -202,16 +195,7 @@ class Refusals(Checks):
                 self.assertEqual(calls(shrink, d, off, GOOD), [-1, 0, 0])
 
     def test_faults_come_before_bounds(self):
-        for a, told in (
-                ([], fault(1, 0)),
-                ([3, 0, 2, 0, 5], fault(1, 5)),
-                ([0, 0], fault(2, 0)),
-                ([3, 0, 25, 0], fault(2, 2)),
-                ([3, 0, 2, 0, 8, 2], fault(3, 4)),
-                (GOOD + [0], fault(4, 6)),
-                (GOOD + [0] * 4090, fault(4, 6)),
-                (GOOD + [0] * 4091, refusal(-2)),
-                ([255] * 5000, refusal(-2))):
+        for a, told in refused_bytes():
             for d in (0, 1, 24, 25, GREATEST):
                 self.assertEqual(calls(spread, d, a), told)
                 for off in (0, 1, 2, GREATEST):
