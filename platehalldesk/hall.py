@@ -9,6 +9,8 @@ MOST_WIDE = 24
 MOST_HIGH = 24
 MOST_NEAR = 24
 MOST_SHIFT = 24
+MOST_SLOPE = 8
+MOST_CLASSES = 64
 HAS = 35
 HAS_NOT = 46
 LINE_END = 10
@@ -102,6 +104,13 @@ def refuse_sheets(sheets):
         if fault:
             return answer(-6, [], [fault[0] + 16 * number, fault[1]])
     return []
+
+
+def refuse_pair(a, b):
+    refused = refuse_sheets([a, b])
+    if not refused and (a[0] != b[0] or a[2] != b[2]):
+        return refusal(-5)
+    return refused
 
 
 def sheet_rows(a):
@@ -199,6 +208,26 @@ def shifted_rows(w, rows, dx, dy):
     return told
 
 
+def dot_numbers(w, rows):
+    """Of each dot that's there, y w + x, in the order of places."""
+    numbers = []
+    for y, row in enumerate(rows):
+        numbers.extend([y * w + x for x in range(w) if (row >> x) & 1])
+    return numbers
+
+
+def is_lattice(a, b):
+    return 1 <= a <= MOST_SLOPE and b <= MOST_SLOPE and a * a + b * b <= MOST_CLASSES
+
+
+def common_divisor(a, b):
+    while b > 0:
+        rest = a % b
+        a = b
+        b = rest
+    return a
+
+
 def judge(a):
     refused = refuse_sheets([a])
     if refused:
@@ -230,11 +259,9 @@ def read(t):
 
 
 def join(how, a, b):
-    refused = refuse_sheets([a, b])
+    refused = refuse_pair(a, b)
     if refused:
         return refused
-    if a[0] != b[0] or a[2] != b[2]:
-        return refusal(-5)
     if how > 3:
         return refusal(-1)
     rows = [join_rows(how, p, q) for p, q in zip(sheet_rows(a), sheet_rows(b))]
@@ -294,3 +321,35 @@ def cut(x, y, w, h, a):
         return refusal(-1)
     rows = [(row >> x) & full_row(w) for row in sheet_rows(a)[y:y + h]]
     return answer_bytes(sheet_bytes(w, rows))
+
+
+def first(from_place, a):
+    refused = refuse_sheets([a])
+    if refused:
+        return refused
+    if from_place >= a[0] * a[2]:
+        return refusal(-1)
+    for number in dot_numbers(a[0], sheet_rows(a)):
+        if number >= from_place:
+            return answer(number, [], [])
+    return refusal(-4)
+
+
+def same(a, b):
+    refused = refuse_pair(a, b)
+    if refused:
+        return refused
+    w = a[0]
+    just_one = [join_rows(3, p, q) for p, q in zip(sheet_rows(a), sheet_rows(b))]
+    unlike = dot_numbers(w, just_one)
+    if unlike:
+        return answer(0, [], [unlike[0] % w, unlike[0] // w])
+    return answer(1, [], [])
+
+
+def cell(a, b):
+    if not is_lattice(a, b):
+        return refusal(-1)
+    n = a * a + b * b
+    g = common_divisor(a, b)
+    return answer(n, [], [n, n // g, g])

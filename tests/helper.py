@@ -9,6 +9,11 @@ LEAST_SIGNED = -9223372036854775808
 GREATEST_SIGNED = 9223372036854775807
 
 GOOD = [3, 0, 2, 0, 5, 2]
+OTHER_WIDTH = [4, 0, 2, 0, 5, 2]
+OTHER_HEIGHT = [3, 0, 1, 0, 5]
+BAD_BIT = [3, 0, 2, 0, 8, 2]
+BAD_END = [3, 0, 2, 0, 5]
+LONG = [3, 0, 2, 0] + [0] * 4093
 
 
 class Untouched(list):

@@ -24,6 +24,9 @@ INTERFACE = {
     "turn": ["how", "a"],
     "shift": ["dx", "dy", "a"],
     "cut": ["x", "y", "w", "h", "a"],
+    "first": ["from_place", "a"],
+    "same": ["a", "b"],
+    "cell": ["a", "b"],
 }
 
 BUILT_IN = """len range enumerate zip min max sum abs sorted reversed int str bool list tuple dict set frozenset

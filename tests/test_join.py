@@ -3,14 +3,8 @@
 import unittest
 
 from platehalldesk.hall import join
-from tests.helper import (GOOD, GREATEST, bytes_answer, calls, encode, every_sheet, fault, from_picture,
-                          many_sheets, mixed_sheet, refusal)
-
-OTHER_WIDTH = [4, 0, 2, 0, 5, 2]
-OTHER_HEIGHT = [3, 0, 1, 0, 5]
-BAD_BIT = [3, 0, 2, 0, 8, 2]
-BAD_END = [3, 0, 2, 0, 5]
-LONG = [3, 0, 2, 0] + [0] * 4093
+from tests.helper import (BAD_BIT, BAD_END, GOOD, GREATEST, LONG, OTHER_HEIGHT, OTHER_WIDTH, bytes_answer, calls,
+                          encode, every_sheet, fault, from_picture, many_sheets, mixed_sheet, refusal)
 
 
 def joined(how, first, second):
