@@ -4,13 +4,13 @@ A sheet that was found without a fault is gone on with as its width w and its ro
 of each row one whole number, whose bit x is dot x.
 """
 
+from platehalldesk.screens import Lattice, class_ranks, is_lattice, is_screen
+
 MOST_BYTES = 4096
 MOST_WIDE = 24
 MOST_HIGH = 24
 MOST_NEAR = 24
 MOST_SHIFT = 24
-MOST_SLOPE = 8
-MOST_CLASSES = 64
 HAS = 35
 HAS_NOT = 46
 LINE_END = 10
@@ -216,18 +216,6 @@ def dot_numbers(w, rows):
     return numbers
 
 
-def is_lattice(a, b):
-    return 1 <= a <= MOST_SLOPE and b <= MOST_SLOPE and a * a + b * b <= MOST_CLASSES
-
-
-def common_divisor(a, b):
-    while b > 0:
-        rest = a % b
-        a = b
-        b = rest
-    return a
-
-
 def judge(a):
     refused = refuse_sheets([a])
     if refused:
@@ -350,6 +338,25 @@ def same(a, b):
 def cell(a, b):
     if not is_lattice(a, b):
         return refusal(-1)
-    n = a * a + b * b
-    g = common_divisor(a, b)
-    return answer(n, [], [n, n // g, g])
+    lattice = Lattice(a, b)
+    return answer(lattice.n, [], [lattice.n, lattice.p, lattice.g])
+
+
+def class_number(a, b, x, y):
+    if not is_lattice(a, b):
+        return refusal(-1)
+    return answer(Lattice(a, b).class_at(x, y), [], [])
+
+
+def rank(a, b, way, x, y):
+    if not is_screen(a, b, way):
+        return refusal(-1)
+    lattice = Lattice(a, b)
+    return answer(class_ranks(lattice, way)[lattice.class_at(x, y)], [], [])
+
+
+def table(a, b, way):
+    if not is_screen(a, b, way):
+        return refusal(-1)
+    ranks = class_ranks(Lattice(a, b), way)
+    return answer(len(ranks), [], ranks)

@@ -3,10 +3,17 @@
 Here a sheet is (w, h, dots), dots a set of (x, y); nothing of this is taken from the package.
 """
 
+import functools
+
 # The greatest number that may be handed in; of those that may lie below 0, the least and the greatest.
 GREATEST = 18446744073709551615
 LEAST_SIGNED = -9223372036854775808
 GREATEST_SIGNED = 9223372036854775807
+
+# What's above every bound of a screen's slope.
+TOO_GREAT = (9, 10, 16, 64, 255, 256, 1 << 16, 1 << 31, 1 << 32, 1 << 33, 1 << 62, 1 << 63, GREATEST - 1, GREATEST)
+# Slopes that are none: a is 0, or one is above 8, or n is above 64.
+NO_SLOPES = ((0, 0), (0, 1), (0, 8), (9, 0), (1, 9), (9, 9), (8, 1), (1, 8), (8, 8), (7, 4), (4, 7), (6, 6), (0, 9))
 
 GOOD = [3, 0, 2, 0, 5, 2]
 OTHER_WIDTH = [4, 0, 2, 0, 5, 2]
@@ -131,3 +138,81 @@ def many_sheets():
         yield (w, h, set(places(w, h)))
         for seed in range(3):
             yield mixed_sheet(w, h, seed)
+
+
+def greatest_common_divisor(a, b):
+    return max(d for d in range(1, 9) if a % d == 0 and b % d == 0)
+
+
+def on_lattice(a, b, x, y):
+    """Whether (x, y) is i (a, b) + j (-b, a): i n is a x + b y, and j n is a y - b x."""
+    n = a * a + b * b
+    return (a * x + b * y) % n == 0 and (a * y - b * x) % n == 0
+
+
+def slopes():
+    return [(a, b) for a in range(1, 9) for b in range(9) if a * a + b * b <= 64]
+
+
+def screens():
+    return [(a, b, way) for a, b in slopes() for way in range(3)]
+
+
+def cell_numbers(a, b):
+    """n, p, g."""
+    n = a * a + b * b
+    g = greatest_common_divisor(a, b)
+    return n, n // g, g
+
+
+def class_places(a, b):
+    """Of each class, by its number, its place with x below p and y below g."""
+    n, p, g = cell_numbers(a, b)
+    return places(p, g)
+
+
+def lattice_places(a, b, steps):
+    """The lattice's places i (a, b) + j (-b, a), i and j of these steps."""
+    return [(i * a - j * b, i * b + j * a) for i in steps for j in steps]
+
+
+@functools.lru_cache(maxsize=None)
+def class_by_rests(a, b):
+    """Of places, by their rests in p, the class's number: found by moving each class along the lattice.
+
+    The lattice has (p, 0) and (0, p), so that places with the same rests in p are of one class.
+    """
+    n, p, g = cell_numbers(a, b)
+    assert on_lattice(a, b, p, 0) and on_lattice(a, b, 0, p)
+    found = {}
+    for s, t in lattice_places(a, b, range(p)):
+        for number, (x, y) in enumerate(class_places(a, b)):
+            found.setdefault(((x + s) % p, (y + t) % p), set()).add(number)
+    assert all(len(numbers) == 1 for numbers in found.values()) and len(found) == p * p
+    return {rests: min(numbers) for rests, numbers in found.items()}
+
+
+def class_of(a, b, x, y):
+    n, p, g = cell_numbers(a, b)
+    return class_by_rests(a, b)[(x % p, y % p)]
+
+
+def far_by_words(a, b, way, x, y):
+    """How far (x, y) is, of many places of the lattice round it and of many numbers m."""
+    if way == 2:
+        return min(abs(a * y - b * x - (a * a + b * b) * m) for m in range(-80, 81))
+    if way == 0:
+        return min((x - s) * (x - s) + (y - t) * (y - t) for s, t in lattice_places(a, b, range(-12, 13)))
+    return min(abs(x - s) + abs(y - t) for s, t in lattice_places(a, b, range(-12, 13)))
+
+
+@functools.lru_cache(maxsize=None)
+def ranks_by_words(a, b, way):
+    """Of each class, by its number, its rank."""
+    far = [far_by_words(a, b, way, x, y) for x, y in class_places(a, b)]
+    order = sorted(range(len(far)), key=lambda number: (far[number], number))
+    return [order.index(number) for number in range(len(far))]
+
+
+def rank_by_words(a, b, way, x, y):
+    return ranks_by_words(a, b, way)[class_of(a, b, x, y)]

@@ -3,23 +3,7 @@
 import unittest
 
 from platehalldesk.hall import cell
-from tests.helper import GREATEST, calls
-
-TOO_GREAT = (9, 10, 16, 64, 255, 256, 1 << 16, 1 << 31, 1 << 32, 1 << 33, 1 << 62, 1 << 63, GREATEST - 1, GREATEST)
-
-
-def greatest_common_divisor(a, b):
-    return max(d for d in range(1, 9) if a % d == 0 and b % d == 0)
-
-
-def on_lattice(a, b, x, y):
-    """Whether (x, y) is i (a, b) + j (-b, a): i n is a x + b y, and j n is a y - b x."""
-    n = a * a + b * b
-    return (a * x + b * y) % n == 0 and (a * y - b * x) % n == 0
-
-
-def slopes():
-    return [(a, b) for a in range(1, 9) for b in range(9) if a * a + b * b <= 64]
+from tests.helper import TOO_GREAT, calls, greatest_common_divisor, on_lattice, slopes
 
 
 class Cells(unittest.TestCase):
