@@ -4,13 +4,14 @@ A sheet that was found without a fault is gone on with as its width w and its ro
 of each row one whole number, whose bit x is dot x.
 """
 
-from platehalldesk.screens import Lattice, class_ranks, is_lattice, is_screen
+from platehalldesk.screens import Lattice, Screen, count_dots, find_tone, is_lattice, is_screen, is_tone, tint_row
 
 MOST_BYTES = 4096
 MOST_WIDE = 24
 MOST_HIGH = 24
 MOST_NEAR = 24
 MOST_SHIFT = 24
+MOST_COUNTED = 1000000000
 HAS = 35
 HAS_NOT = 46
 LINE_END = 10
@@ -136,6 +137,10 @@ def row_dots(w, row):
     return [(row >> x) & 1 for x in range(w)]
 
 
+def dots_row(dots):
+    return sum([dot << x for x, dot in enumerate(dots)])
+
+
 def drawing_rows(t):
     w = t.index(LINE_END)
     rows = []
@@ -191,11 +196,11 @@ def shrink_rows(w, rows, d, off):
 
 
 def column_as_row(x, rows):
-    return sum([((row >> x) & 1) << y for y, row in enumerate(rows)])
+    return dots_row([(row >> x) & 1 for row in rows])
 
 
 def mirrored_row(w, row):
-    return sum([dot << (w - 1 - x) for x, dot in enumerate(row_dots(w, row))])
+    return dots_row(list(reversed(row_dots(w, row))))
 
 
 def shifted_rows(w, rows, dx, dy):
@@ -351,12 +356,37 @@ def class_number(a, b, x, y):
 def rank(a, b, way, x, y):
     if not is_screen(a, b, way):
         return refusal(-1)
-    lattice = Lattice(a, b)
-    return answer(class_ranks(lattice, way)[lattice.class_at(x, y)], [], [])
+    return answer(Screen(a, b, way).rank_at(x, y), [], [])
 
 
 def table(a, b, way):
     if not is_screen(a, b, way):
         return refusal(-1)
-    ranks = class_ranks(Lattice(a, b), way)
+    ranks = Screen(a, b, way).ranks
     return answer(len(ranks), [], ranks)
+
+
+def tint(a, b, way, t, ox, oy, w, h):
+    if not is_tone(a, b, way, t) or w == 0 or w > MOST_WIDE or h == 0 or h > MOST_HIGH:
+        return refusal(-1)
+    screen = Screen(a, b, way)
+    rows = [dots_row(tint_row(screen, t, ox, oy + y, w)) for y in range(h)]
+    return answer_bytes(sheet_bytes(w, rows))
+
+
+def count(a, b, way, t, x, y, w, h):
+    if not is_tone(a, b, way, t) or w > MOST_COUNTED or h > MOST_COUNTED:
+        return refusal(-1)
+    return answer(count_dots(Screen(a, b, way), t, x, y, w, h), [], [])
+
+
+def tone(a, b, way, s):
+    refused = refuse_sheets([s])
+    if refused:
+        return refused
+    if not is_screen(a, b, way):
+        return refusal(-1)
+    found = find_tone(Screen(a, b, way), [row_dots(s[0], row) for row in sheet_rows(s)])
+    if not found:
+        return refusal(-4)
+    return answer(found[0], [], found[1:])

@@ -13,6 +13,10 @@ def is_screen(a, b, way):
     return is_lattice(a, b) and way <= MOST_WAY
 
 
+def is_tone(a, b, way, t):
+    return is_screen(a, b, way) and t <= a * a + b * b
+
+
 def common_divisor(a, b):
     while b > 0:
         rest = a % b
@@ -50,7 +54,7 @@ class Lattice:
         return x
 
     def class_at(self, x, y):
-        # The lattice has (slant, g) and (p, 0): steps of the one lead to the rows above g, of the other to below p.
+        # The lattice has (slant, g) and (p, 0): by steps of the first a place comes to y below g, then to x below p.
         steps = y // self.g
         return (y % self.g) * self.p + (x - steps * self.slant) % self.p
 
@@ -91,3 +95,55 @@ def class_ranks(lattice, way):
     for position, pair in enumerate(sorted(order)):
         ranks[pair[1]] = position
     return ranks
+
+
+class Screen(Lattice):
+    """A lattice and its classes' ranks by one way."""
+
+    def __init__(self, a, b, way):
+        Lattice.__init__(self, a, b)
+        self.ranks = class_ranks(self, way)
+
+    def rank_at(self, x, y):
+        return self.ranks[self.class_at(x, y)]
+
+
+def tint_row(screen, t, x, y, w):
+    """The dots of a tint's row, w from (x, y) on: 1 or 0 for each."""
+    return [1 if screen.rank_at(x + i, y) < t else 0 for i in range(w)]
+
+
+def count_dots(screen, t, x, y, w, h):
+    # The lattice has (p, 0) and, as it's the same when turned by a quarter, (0, p): so every p-th row is the same.
+    p = screen.p
+    dots = 0
+    for j in range(min(h, p)):
+        row = tint_row(screen, t, x, y + j, p)
+        alike = (h - 1 - j) // p + 1
+        dots = dots + alike * (w // p * sum(row) + sum(row[:w % p]))
+    return dots
+
+
+def least_tone(screen, x, y, rows):
+    """The least tone that with the offsets x, y prints these rows of dots, or -1 if none does."""
+    least = 0
+    most = screen.n
+    for j, row in enumerate(rows):
+        for i, dot in enumerate(row):
+            met = screen.rank_at(x + i, y + j)
+            if dot:
+                least = max(least, met + 1)
+            else:
+                most = min(most, met)
+    return least if least <= most else -1
+
+
+def find_tone(screen, rows):
+    """The least tone that prints these rows of dots, x and y of its first class; or an empty list if none does."""
+    found = []
+    for number in range(screen.n):
+        place = screen.class_place(number)
+        t = least_tone(screen, place[0], place[1], rows)
+        if t >= 0 and (not found or t < found[0]):
+            found = [t, place[0], place[1]]
+    return found

@@ -158,6 +158,7 @@ def screens():
     return [(a, b, way) for a, b in slopes() for way in range(3)]
 
 
+@functools.lru_cache(maxsize=None)
 def cell_numbers(a, b):
     """n, p, g."""
     n = a * a + b * b
@@ -216,3 +217,8 @@ def ranks_by_words(a, b, way):
 
 def rank_by_words(a, b, way, x, y):
     return ranks_by_words(a, b, way)[class_of(a, b, x, y)]
+
+
+def tint_by_words(a, b, way, t, ox, oy, w, h):
+    dots = {(x, y) for x, y in places(w, h) if rank_by_words(a, b, way, x + ox, y + oy) < t}
+    return (w, h, dots)

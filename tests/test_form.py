@@ -30,6 +30,9 @@ INTERFACE = {
     "class_number": ["a", "b", "x", "y"],
     "rank": ["a", "b", "way", "x", "y"],
     "table": ["a", "b", "way"],
+    "tint": ["a", "b", "way", "t", "ox", "oy", "w", "h"],
+    "count": ["a", "b", "way", "t", "x", "y", "w", "h"],
+    "tone": ["a", "b", "way", "s"],
 }
 
 BUILT_IN = """len range enumerate zip min max sum abs sorted reversed int str bool list tuple dict set frozenset
